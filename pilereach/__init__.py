@@ -1,0 +1,1 @@
+"""Pilereach: machines with one pile."""

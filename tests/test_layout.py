@@ -1,0 +1,75 @@
+"""The interface as it is written, and the sizes that the language allows."""
+
+import ast
+import importlib
+import inspect
+import pathlib
+import unittest
+
+PACKAGE = pathlib.Path(__file__).resolve().parent.parent / "pilereach"
+
+INTERFACE = {
+    "errors": {
+        "PileError": None,
+        "InvalidMachine": None,
+        "InvalidNet": None,
+        "Mismatch": None,
+        "NotPlain": None,
+        "NoStep": "(index)",
+        "InvalidProgram": "(index)",
+        "InvalidText": "(where)",
+    },
+    "machine": {
+        "Step": "(state, letter, goal, laid=(), weight=1)",
+        "Machine": "(states, letters, steps)",
+    },
+    "runs": {
+        "possible": "(machine, configuration)",
+        "take": "(machine, configuration, index)",
+        "follow": "(machine, configuration, run)",
+        "weight_of": "(machine, run)",
+    },
+}
+
+
+def names():
+    return [(file, name, parameters) for file, parts in INTERFACE.items() for name, parameters in parts.items()]
+
+
+class InterfaceTest(unittest.TestCase):
+    def test_each_name_is_defined_in_its_file(self):
+        for file, name, _ in names():
+            with self.subTest(file=file, name=name):
+                module = importlib.import_module(f"pilereach.{file}")
+                self.assertEqual(getattr(module, name).__module__, f"pilereach.{file}")
+
+    def test_parameters_and_their_default_values(self):
+        for file, name, parameters in names():
+            if parameters is not None:
+                with self.subTest(file=file, name=name):
+                    module = importlib.import_module(f"pilereach.{file}")
+                    self.assertEqual(str(inspect.signature(getattr(module, name))), parameters)
+
+
+class SizeTest(unittest.TestCase):
+    def texts(self):
+        return [(path.name, path.read_text("utf-8")) for path in sorted(PACKAGE.rglob("*.py"))]
+
+    def test_lines_and_characters(self):
+        for name, text in self.texts():
+            with self.subTest(name):
+                lines = text.splitlines()
+                self.assertLessEqual(len(lines), 399)
+                self.assertLessEqual(max(len(line) for line in lines), 120)
+                self.assertTrue(all(" " <= sign <= "~" or sign == "\n" for sign in text))
+
+    def test_functions_have_at_most_40_lines(self):
+        for name, text in self.texts():
+            for node in ast.walk(ast.parse(text)):
+                if isinstance(node, ast.FunctionDef):
+                    with self.subTest(name, function=node.name):
+                        self.assertLessEqual(node.end_lineno - node.lineno + 1, 40)
+
+
+if __name__ == "__main__":
+    unittest.main()
