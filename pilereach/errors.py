@@ -1,4 +1,7 @@
-"""The errors that the program raises."""
+"""The errors that the program raises.
+
+No message shows a number: Python refuses to write out very large ones.
+"""
 
 
 class PileError(ValueError):
@@ -25,7 +28,7 @@ class NoStep(PileError):
     """There is no possible step: index tells which one was asked for."""
 
     def __init__(self, index):
-        PileError.__init__(self, f"no possible step: {index}")
+        PileError.__init__(self, "there is no such step, or it is not possible")
         self.index = index
 
 
@@ -33,7 +36,7 @@ class InvalidProgram(PileError):
     """A program is wrong: index is that of the procedure, or -1."""
 
     def __init__(self, index):
-        PileError.__init__(self, f"wrong program, procedure {index}")
+        PileError.__init__(self, "this is no program")
         self.index = index
 
 
@@ -41,5 +44,5 @@ class InvalidText(PileError):
     """A text is none of a program: where is the index of the fault."""
 
     def __init__(self, where):
-        PileError.__init__(self, f"no text of a program, index {where}")
+        PileError.__init__(self, "this is no text of a program")
         self.where = where

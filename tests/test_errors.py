@@ -44,6 +44,14 @@ class ErrorsTest(unittest.TestCase):
                     self.assertEqual(vars(kind(number)), {field: number})
                     self.assertEqual(vars(kind(**{field: number})), {field: number})
 
+    def test_the_field_may_be_larger_than_what_python_writes_out(self):
+        for kind, field in WITH_A_FIELD:
+            for number in (10 ** 5_000, -(10 ** 5_000)):
+                error = kind(number)
+                self.assertTrue(getattr(error, field) == number)
+                self.assertIsInstance(str(error), str)
+                self.assertIsInstance(repr(error), str)
+
     def test_errors_with_a_field_need_it(self):
         for kind, _ in WITH_A_FIELD:
             with self.subTest(kind=kind.__name__):

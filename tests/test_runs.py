@@ -115,6 +115,11 @@ class TakeTest(RunsTest):
                 for configuration in ((0, (0,)), (0, (0, 1)), (1, (0,)), (0, (2,)), (0, ())):
                     self.check_no_step(index, take, self.machine, configuration, index)
 
+    def test_numbers_that_are_larger_than_what_python_writes_out(self):
+        for index in (10 ** 5_000, -(10 ** 5_000)):
+            self.check_no_step(index, take, self.machine, (0, (0,)), index)
+            self.check_no_step(1, follow, self.machine, (0, (0, 0)), (0, index))
+
     def test_a_machine_without_steps(self):
         for index in (0, 1, -1):
             with self.subTest(index=index):
