@@ -29,7 +29,25 @@ INTERFACE = {
         "follow": "(machine, configuration, run)",
         "weight_of": "(machine, run)",
     },
+    "net": {
+        "Net": "(states, letters, nodes, edges, ends)",
+        "plain": "(net)",
+        "whole_net": "(states, letters)",
+        "none_net": "(states, letters)",
+        "single": "(states, letters, configuration)",
+    },
+    "product": {"union": "(a, b)", "both": "(a, b)"},
+    "subset": {"deterministic": "(net)", "other": "(net)", "minus": "(a, b)"},
+    "order": {"first": "(net)", "members": "(net, height)", "count": "(net, height)", "apart": "(a, b)"},
+    "ahead": {"ahead": "(machine, net)", "least": "(machine, net, configuration)"},
+    "spelling": {"length_of": "(machine, paper)", "spelled": "(machine, paper, most)"},
+    "behind": {"behind": "(machine, net)", "came": "(machine, net, configuration)"},
+    "endless": {"endless": "(machine, marked, configuration)"},
 }
+
+# What the interface lists for a class, which must stand in the class itself.
+METHODS = {("net", "Net"): {"accepts": "(self, configuration)"}}
+PROPERTIES = {("net", "Net"): ["is_plain"]}
 
 
 def names():
@@ -49,6 +67,19 @@ class InterfaceTest(unittest.TestCase):
                 with self.subTest(file=file, name=name):
                     module = importlib.import_module(f"pilereach.{file}")
                     self.assertEqual(str(inspect.signature(getattr(module, name))), parameters)
+
+    def test_methods_stand_in_the_class_itself(self):
+        for (file, name), methods in METHODS.items():
+            for method, parameters in methods.items():
+                kind = getattr(importlib.import_module(f"pilereach.{file}"), name)
+                self.assertIn(method, vars(kind))
+                self.assertEqual(str(inspect.signature(vars(kind)[method])), parameters)
+
+    def test_properties_stand_in_the_class_itself(self):
+        for (file, name), properties in PROPERTIES.items():
+            for member in properties:
+                kind = getattr(importlib.import_module(f"pilereach.{file}"), name)
+                self.assertIsInstance(vars(kind)[member], property)
 
 
 class SizeTest(unittest.TestCase):
