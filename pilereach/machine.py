@@ -1,6 +1,7 @@
 """Machines with finitely many states and one pile of letters."""
 
 from pilereach.errors import InvalidMachine
+from pilereach.ranges import is_below
 
 MOST_LAID = 2
 
@@ -51,20 +52,16 @@ class Machine:
 
 def _check_step(step, states, letters):
     """Raise InvalidMachine if a machine of this size can't have the step."""
-    if not _is_below(step.state, states):
+    if not is_below(step.state, states):
         raise InvalidMachine("a step begins at a state that is none")
-    if not _is_below(step.letter, letters):
+    if not is_below(step.letter, letters):
         raise InvalidMachine("a step has a letter that is none")
-    if not _is_below(step.goal, states):
+    if not is_below(step.goal, states):
         raise InvalidMachine("a step leads to a state that is none")
     if len(step.laid) > MOST_LAID:
         raise InvalidMachine("a step lays more than two letters")
     for letter in step.laid:
-        if not _is_below(letter, letters):
+        if not is_below(letter, letters):
             raise InvalidMachine("a step lays a letter that is none")
     if step.weight < 0:
         raise InvalidMachine("a step has a negative weight")
-
-
-def _is_below(number, many):
-    return 0 <= number and number < many

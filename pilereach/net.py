@@ -2,6 +2,7 @@
 
 from pilereach.branches import branches
 from pilereach.errors import InvalidNet
+from pilereach.ranges import is_below
 
 
 class Net:
@@ -17,7 +18,7 @@ class Net:
         for edge in edges:
             _check_edge(edge, letters, nodes)
         for end in ends:
-            if end < 0 or end >= nodes:
+            if not is_below(end, nodes):
                 raise InvalidNet("an end is no node")
         self.states = states
         self.letters = letters
@@ -110,7 +111,7 @@ def _ascending(parts):
 def _check_edge(edge, letters, nodes):
     """Raise InvalidNet if a net of this size can't have the edge."""
     node, letter, goal = edge
-    if node < 0 or node >= nodes or goal < 0 or goal >= nodes:
+    if not is_below(node, nodes) or not is_below(goal, nodes):
         raise InvalidNet("an edge has a node that does not exist")
-    if letter < 0 or letter >= letters:
+    if not is_below(letter, letters):
         raise InvalidNet("an edge has a letter that does not exist")

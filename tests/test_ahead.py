@@ -5,6 +5,7 @@ import unittest
 
 from pilereach.ahead import ahead, least
 from pilereach.errors import Mismatch, NotPlain
+from pilereach.judge import takes_least
 from pilereach.machine import Machine, Step
 from pilereach.net import Net, none_net, single, whole_net
 from pilereach.spelling import length_of, spelled
@@ -35,6 +36,7 @@ class LeastTest(unittest.TestCase):
         copies = (copy_of_machine(machine), copy_of_net(net), (configuration[0], tuple(list(configuration[1]))))
         answer = least(machine, net, configuration)
         self.assertTrue(checks.is_least(machine, net, configuration, answer), answer)
+        self.assertIs(takes_least(machine, net, configuration, *answer), True)
         self.assertEqual((machine, net, configuration), copies)
         self.assertEqual(least(copies[0], copies[1], copies[2]), answer)
         self.assertIs(ahead(machine, net).accepts(configuration), answer[0] is not None)
@@ -254,6 +256,7 @@ class LargeTest(unittest.TestCase):
     def check(self, machine, net, configuration, *expected):
         answer = least(machine, net, configuration)
         self.assertTrue(checks.is_least(machine, net, configuration, answer))
+        self.assertIs(takes_least(machine, net, configuration, *answer), True)
         self.assertIs(ahead(machine, net).accepts(configuration), answer[0] is not None)
         for weight in expected:
             self.assertEqual(answer[0], weight)

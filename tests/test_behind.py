@@ -5,6 +5,7 @@ import unittest
 
 from pilereach.behind import behind, came
 from pilereach.errors import Mismatch, NotPlain
+from pilereach.judge import takes_came
 from pilereach.machine import Machine, Step
 from pilereach.net import Net, none_net, single, whole_net
 from tests import checks
@@ -26,6 +27,7 @@ class CameTest(unittest.TestCase):
         copies = (copy_of_machine(machine), copy_of_net(net), (configuration[0], tuple(list(configuration[1]))))
         answer = came(machine, net, configuration)
         self.assertTrue(checks.is_came(machine, net, configuration, answer), answer)
+        self.assertIs(takes_came(machine, net, configuration, *answer), True)
         self.assertEqual((machine, net, configuration), copies)
         self.assertEqual(came(*copies), answer)
         self.assertIs(behind(machine, net).accepts(configuration), answer[0])
@@ -200,6 +202,7 @@ class LargeTest(unittest.TestCase):
     def check(self, machine, net, configuration, *expected):
         answer = came(machine, net, configuration)
         self.assertTrue(checks.is_came(machine, net, configuration, answer))
+        self.assertIs(takes_came(machine, net, configuration, *answer), True)
         self.assertIs(behind(machine, net).accepts(configuration), answer[0])
         for verdict in expected:
             self.assertIs(answer[0], verdict)

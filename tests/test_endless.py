@@ -4,6 +4,7 @@ import random
 import unittest
 
 from pilereach.endless import endless
+from pilereach.judgeever import takes_endless
 from pilereach.machine import Machine, Step
 from tests import checks
 from tests.samples import chain_heads, chain_steps, copy_of_machine, large_machine, random_machine
@@ -15,6 +16,7 @@ class EndlessTest(unittest.TestCase):
         copies = (copy_of_machine(machine), list(marked), (configuration[0], tuple(list(configuration[1]))))
         answer = endless(machine, marked, configuration)
         self.assertTrue(checks.is_endless(machine, marked, configuration, answer), answer)
+        self.assertIs(takes_endless(machine, marked, configuration, *answer), True)
         self.assertEqual((machine, list(marked), configuration), copies)
         self.assertEqual(endless(copies[0], marked, copies[2]), answer)
         for verdict in expected:
@@ -137,6 +139,7 @@ class LargeTest(unittest.TestCase):
     def check(self, machine, marked, configuration, *expected):
         answer = endless(machine, marked, configuration)
         self.assertTrue(checks.is_endless(machine, marked, configuration, answer))
+        self.assertIs(takes_endless(machine, marked, configuration, *answer), True)
         for verdict in expected:
             self.assertIs(answer[0], verdict)
         return answer[1]

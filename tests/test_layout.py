@@ -43,6 +43,13 @@ INTERFACE = {
     "spelling": {"length_of": "(machine, paper)", "spelled": "(machine, paper, most)"},
     "behind": {"behind": "(machine, net)", "came": "(machine, net, configuration)"},
     "endless": {"endless": "(machine, marked, configuration)"},
+    "judge": {
+        "takes_least": "(machine, net, configuration, weight, paper)",
+        "takes_came": "(machine, net, configuration, verdict, paper)",
+    },
+    "judgeever": {"takes_endless": "(machine, marked, configuration, verdict, paper)"},
+    "program": {"Program": "(global_count, procedures)"},
+    "meaning": {"begin": "(program)", "after": "(program, situation)"},
 }
 
 # What the interface lists for a class, which must stand in the class itself.
