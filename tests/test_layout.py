@@ -50,6 +50,20 @@ INTERFACE = {
     "judgeever": {"takes_endless": "(machine, marked, configuration, verdict, paper)"},
     "program": {"Program": "(global_count, procedures)"},
     "meaning": {"begin": "(program)", "after": "(program, situation)"},
+    "compiled": {
+        "machine_of": "(program)",
+        "configuration_of": "(program, situation)",
+        "situation_of": "(program, configuration)",
+    },
+    "questions": {
+        "place_net": "(program, place)",
+        "place_marks": "(program, place)",
+        "can_pass": "(program, place)",
+        "passes_ever": "(program, place)",
+        "story": "(program, paper, most)",
+    },
+    "reader": {"read_program": "(text)"},
+    "printer": {"write_program": "(program)"},
 }
 
 # What the interface lists for a class, which must stand in the class itself.
